@@ -60,7 +60,8 @@ def is_same_place(place, other):
 def registration(house, request, now, entries):
     if is_bad(house, request, entries):
         return Registration(BAD_REQUEST, entries)
-    changed = changed_entries(request, now, entries)
+    # At the latest time there is, what a Contact makes is over at once: it is neither counted nor kept.
+    changed = entries_there(changed_entries(request, now, entries), now)
     if len(changed) > MOST_ENTRIES:
         return Registration(SERVICE_UNAVAILABLE, entries)
     return Registration(OK, changed)

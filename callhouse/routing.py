@@ -54,7 +54,7 @@ def is_for_house_alone(house, request):
 def registration_sending(house, request, source, now, result):
     lines = []
     if result.status == OK:
-        entries = entries_there(entries_of(result.entries, request.receiver.target.word), now)
+        entries = entries_of(result.entries, request.receiver.target.word)
         lines = [contact_line(entry, now) for entry in last_first(entries)]
     return reply(house, request, source, result.status, lines)
 

@@ -189,10 +189,11 @@ class House:
             if span:
                 entry.update(whom=whom, until=min(now + span, 4294967295), call=message.call, number=message.number)
                 entries.append(entry)
+        entries = [entry for entry in entries if entry["until"] > now]
         if len(entries) > 256:
             return (None, "503 Service Unavailable", ""), live
         lines = "".join(f"Contact: <{place(entry)}>;expires={entry['until'] - now}\r\n" for entry in reversed(entries)
-                        if entry["whom"] == whom and entry["until"] > now)
+                        if entry["whom"] == whom)
         return (None, "200 OK", lines), entries
 
     def received(self, message, source):

@@ -12,7 +12,7 @@ WORDS = ["", "", "bob@", "bob@", "Bob@", "al@", "a.b_c-d+e@"]
 METHODS = ["REGISTER", "REGISTER", "REGISTER", "INVITE", "INVITE", "OPTIONS", "ACK", "CANCEL", "X"]
 PARAMETERS = ["", "", "", ";x", ";x=1", ";tag=2", ";Tag", ";expires=5", ";expires=0", ";expires=x", ";EXPIRES=70;expires",
               ";received=10.0.0.4", ";received=far", ";received"]
-TIMES = [0, 1, 100, 105, 110, 3700, 4294963695, 4294967294]
+TIMES = [0, 1, 100, 105, 110, 3700, 4294963695, 4294967294, 4294967295]
 SPICE = list(b" :;=<>@,.-*\"\r\n\t0159aAzZ\x00\x7f\xff%_+/")
 
 

@@ -1,6 +1,7 @@
 import unittest
 
-from support import after_begin, contacts, listed, listing, message, packet, registering, sent, status
+from support import (
+    after_begin, begin, contacts, listed, listing, message, packet, registering, request, run, sent, status)
 
 LATEST = 4294967295
 
@@ -132,8 +133,65 @@ class Times(unittest.TestCase):
         self.assertEqual(listed(rows[1]), "bob sip:10.0.0.5:5060 1\n")
         self.assertEqual(rows[2], [0])
 
-    def test_until_now_is_not_there(self):
-        self.check(["m: <sip:10.0.0.5>"], [], now=LATEST)
+
+class LatestNow(unittest.TestCase):
+    """What a REGISTER makes at the latest now has its time then, so it isn't there and is taken away for good."""
+
+    def test_it_is_not_told_then_or_later(self):
+        for lines in (["m: <sip:10.0.0.5>"], ["m: <sip:10.0.0.5>;expires=1"], ["m: <sip:10.0.0.5>;expires=999999999"],
+                      ["m: <sip:10.0.0.5>", "Expires: 1"], ["m: <sip:10.0.0.5>", "m: <sip:u@10.0.0.6:9>"]):
+            rows = after_begin(enrol(*lines, now=LATEST), listing(now=LATEST), listing(now=100), listing(now=0))
+            self.assertEqual(status(rows[0]), "200 OK")
+            self.assertEqual(contacts(rows[0]), [])
+            self.assertEqual(rows[1:], [[0], [0], [0]])
+
+    def test_one_contact_from_the_house_s_own_address(self):
+        lines = ["REGISTER sip:h SIP/2.0", "Via: SIP/2.0/UDP 1.2.3.4;branch=z9hG4bK1", "From: <sip:x@h>",
+                 "To: <sip:x@h>", "Call-ID: a", "CSeq: 1 REGISTER", "Max-Forwards: 7", "Contact: <sip:1.1.0.0:1>"]
+        rows = run(begin(name="h", host="1.2.3.4"), packet(message(*lines), host="1.2.3.4", port=5060, now=LATEST),
+                   listing(now=100))
+        self.assertEqual(status(rows[1]), "200 OK")
+        self.assertEqual(contacts(rows[1]), [])
+        self.assertEqual(rows[2], [0])
+
+    def test_just_before_it_is_kept(self):
+        rows = after_begin(enrol("m: <sip:10.0.0.5>", now=LATEST - 1), listing(now=LATEST - 1), listing(now=100))
+        self.assertEqual(contacts(rows[0]), ["<sip:10.0.0.5:5060>;expires=1"])
+        self.assertEqual(listed(rows[1]), "bob sip:10.0.0.5:5060 1\n")
+        self.assertEqual(listed(rows[2]), f"bob sip:10.0.0.5:5060 {LATEST - 100}\n")
+
+    def test_its_call_and_number_bar_nothing(self):
+        for number in ("5", "4"):
+            rows = after_begin(enrol("m: <sip:10.0.0.5>", number="5", now=LATEST),
+                               enrol("m: <sip:10.0.0.6>", number=number), listing())
+            self.assertEqual(contacts(rows[1]), ["<sip:10.0.0.6:5060>;expires=3600"])
+            self.assertEqual(listed(rows[2]), "bob sip:10.0.0.6:5060 3600\n")
+
+    def test_no_call_goes_on_to_it(self):
+        rows = after_begin(enrol("m: <sip:10.0.0.5>", now=LATEST), packet(request(target="sip:bob@house.example")))
+        self.assertEqual(status(rows[1]), "404 Not Found")
+
+    def test_it_is_not_counted(self):
+        rows = after_begin(many(1, 257, now=LATEST), listing(now=LATEST), listing(now=0))
+        self.assertEqual(status(rows[0]), "200 OK")
+        self.assertEqual(contacts(rows[0]), [])
+        self.assertEqual(rows[1:], [[0], [0]])
+
+    def test_just_before_it_is_counted(self):
+        rows = after_begin(many(1, 257, now=LATEST - 1), many(1, 256, now=LATEST - 1), listing(now=LATEST - 1))
+        self.assertEqual([status(row) for row in rows[:2]], ["503 Service Unavailable", "200 OK"])
+        self.assertEqual(listed(rows[2]).count("\n"), 256)
+
+    def test_bad_stays_bad(self):
+        rows = after_begin(enrol("m: <sip:far>", now=LATEST), enrol("m: *", now=LATEST), listing(now=0))
+        self.assertEqual([status(row) for row in rows[:2]], ["400 Bad Request"] * 2)
+        self.assertEqual(rows[2], [0])
+
+    def test_refused_for_room_changes_nothing(self):
+        late = packet(registering("m: <sip:10.0.0.6>", number="2"), now=LATEST, most=10)
+        rows = after_begin(enrol("m: <sip:10.0.0.5>"), late, listing())
+        self.assertEqual(rows[1], [-1])
+        self.assertEqual(listed(rows[2]), "bob sip:10.0.0.5:5060 3600\n")
 
 
 class Entries(unittest.TestCase):
