@@ -145,14 +145,27 @@ class LatestNow(unittest.TestCase):
             self.assertEqual(contacts(rows[0]), [])
             self.assertEqual(rows[1:], [[0], [0], [0]])
 
-    def test_one_contact_from_the_house_s_own_address(self):
+    def at_h(self, count, now):
+        """The answers of a REGISTER with count Contacts of different addresses at a house h, then of list at 100."""
         lines = ["REGISTER sip:h SIP/2.0", "Via: SIP/2.0/UDP 1.2.3.4;branch=z9hG4bK1", "From: <sip:x@h>",
-                 "To: <sip:x@h>", "Call-ID: a", "CSeq: 1 REGISTER", "Max-Forwards: 7", "Contact: <sip:1.1.0.0:1>"]
-        rows = run(begin(name="h", host="1.2.3.4"), packet(message(*lines), host="1.2.3.4", port=5060, now=LATEST),
+                 "To: <sip:x@h>", "Call-ID: a", "CSeq: 1 REGISTER", "Max-Forwards: 7"]
+        lines += [f"Contact: <sip:1.1.{at // 256}.{at % 256}:1>" for at in range(count)]
+        rows = run(begin(name="h", host="1.2.3.4"), packet(message(*lines), host="1.2.3.4", port=5060, now=now),
                    listing(now=100))
-        self.assertEqual(status(rows[1]), "200 OK")
-        self.assertEqual(contacts(rows[1]), [])
-        self.assertEqual(rows[2], [0])
+        return rows[1:]
+
+    def test_different_addresses(self):
+        for count in (1, 256, 257):
+            rows = self.at_h(count, LATEST)
+            self.assertEqual(status(rows[0]), "200 OK")
+            self.assertEqual(contacts(rows[0]), [])
+            self.assertEqual(rows[1], [0])
+
+    def test_different_addresses_just_before(self):
+        self.assertEqual(len(contacts(self.at_h(256, LATEST - 1)[0])), 256)
+        rows = self.at_h(257, LATEST - 1)
+        self.assertEqual(status(rows[0]), "503 Service Unavailable")
+        self.assertEqual(rows[1], [0])
 
     def test_just_before_it_is_kept(self):
         rows = after_begin(enrol("m: <sip:10.0.0.5>", now=LATEST - 1), listing(now=LATEST - 1), listing(now=100))
